@@ -1,0 +1,1 @@
+"""Scripts that edit texts line by line: a text and its history."""
