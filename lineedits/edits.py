@@ -10,13 +10,14 @@ APPLY = 1
 DRY = 2
 UNDO = 3
 REDO = 4
+SHOWN = 5
+ORIGINS = 6
+SAME = 7
+GUARD = 8
+HISTORY = 9
 
 # How many rows each call has, by its number.
 ROWS = (1, 1, 1, 0, 0, 0, 0, 2, 1, 0)
-
-
-class NotBuilt(Exception):
-    pass
 
 
 def answers(calls):
@@ -70,4 +71,13 @@ def answer_of(session, call, rows):
         return session.undo()
     if call == REDO:
         return session.redo()
-    raise NotBuilt()
+    if call == SHOWN:
+        return session.shown()
+    if call == ORIGINS:
+        return session.origins_now()
+    if call == SAME:
+        return session.same(rows[0], rows[1])
+    if call == GUARD:
+        return session.guard(rows[0])
+    if call == HISTORY:
+        return session.history()

@@ -11,3 +11,7 @@ def is_letter(byte):
 
 def letters_of(row):
     return "".join([ALPHABET[byte - BYTE_OF_A] for byte in row])
+
+
+def bytes_of(letters):
+    return [ord(letter) for letter in letters]

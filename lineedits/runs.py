@@ -24,8 +24,8 @@ class Passage:
     def is_changed(self):
         return self.stays and self.line != self.found
 
-    def how_many_come(self):
-        return len(self.ahead) + (1 if self.stays else 0) + len(self.behind)
+    def lines_coming(self):
+        return self.ahead + ([self.line] if self.stays else []) + self.behind
 
 
 def run(commands, lines):
@@ -36,9 +36,24 @@ def run(commands, lines):
         go_through(commands, passage, len(lines))
         passages.append(passage)
         held = passage.held
-    if sum([passage.how_many_come() for passage in passages]) > MOST_LINES_COMING:
+    if len(result_of(passages)) > MOST_LINES_COMING:
         raise TooMuch()
     return passages
+
+
+def result_of(passages):
+    lines = []
+    for passage in passages:
+        lines.extend(passage.lines_coming())
+    return lines
+
+
+# None stands for too much, so that two runs that are too much come to the same.
+def outcome_of(commands, lines):
+    try:
+        return result_of(run(commands, lines))
+    except TooMuch:
+        return None
 
 
 def go_through(commands, passage, last):

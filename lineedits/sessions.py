@@ -2,10 +2,10 @@
 
 from lineedits.patches import patch_cost
 from lineedits.refusals import HarmsGuarded, NoRoomForStep, NoStepLeft, TooMuch
-from lineedits.runs import run
+from lineedits.runs import outcome_of, run
 from lineedits.scripts import commands_of
-from lineedits.steps import effect_of, first_harmed, first_version, version_behind
-from lineedits.texts import MOST_LINES, lines_of
+from lineedits.steps import effect_of, first_harmed, first_version, is_guarded, version_behind
+from lineedits.texts import MOST_LINES, letters_told, lines_of, told_as_bytes
 
 MOST_STEPS = 20
 
@@ -72,6 +72,32 @@ class Session:
 
     def where_it_stands(self):
         return [1, len(self.now().lines), self.how_many_steps()]
+
+    def shown(self):
+        told = told_as_bytes(self.now().lines)
+        return [len(self.now().lines), len(told)] + told
+
+    def origins_now(self):
+        told = [len(self.now().lines)]
+        for origin in self.now().origins:
+            told.extend(list(origin))
+        return told
+
+    def same(self, a, b):
+        commands_a = commands_of(a)
+        commands_b = commands_of(b)
+        for number, version in enumerate(self.versions):
+            if outcome_of(commands_a, version.lines) != outcome_of(commands_b, version.lines):
+                return [0, 0, number]
+        return [1, len(self.versions)]
+
+    def guard(self, row):
+        self.guarded = letters_told(row)
+        return [1, len([1 for line in self.now().lines if is_guarded(line, self.guarded)])]
+
+    def history(self):
+        sizes = [len(version.lines) for version in self.versions]
+        return [self.how_many_steps(), len(self.undone)] + sizes
 
 
 # What a step would come to, before it is made.

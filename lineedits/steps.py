@@ -1,5 +1,7 @@
 """Steps: what a run makes of a text whose lines have origins."""
 
+from lineedits.runs import result_of
+
 
 # A text at one time. An origin is a tuple: the first text's line, or 0, and
 # the step that put the line or changed it last, or 0.
@@ -14,17 +16,18 @@ def first_version(lines):
 
 
 def version_behind(version, passages, step):
-    lines = []
     origins = []
     for passage, origin in zip(passages, version.origins):
-        lines.extend(passage.ahead)
-        origins.extend([(0, step)] * len(passage.ahead))
-        if passage.stays:
-            lines.append(passage.line)
-            origins.append((origin[0], step) if passage.is_changed() else origin)
-        lines.extend(passage.behind)
-        origins.extend([(0, step)] * len(passage.behind))
-    return Version(lines, origins)
+        origins.extend(origins_coming(passage, origin, step))
+    return Version(result_of(passages), origins)
+
+
+def origins_coming(passage, origin, step):
+    itself = []
+    if passage.stays:
+        itself = [(origin[0], step) if passage.is_changed() else origin]
+    put = (0, step)
+    return [put] * len(passage.ahead) + itself + [put] * len(passage.behind)
 
 
 # How many lines come as they were, are changed, go, are put.
@@ -37,12 +40,14 @@ def effect_of(passages):
     ]
 
 
+# Without letters nothing is guarded, though no letters stand in every line.
+def is_guarded(line, guarded):
+    return guarded != "" and guarded in line
+
+
 # The number of the first guarded line that is changed or goes, or 0.
 def first_harmed(passages, guarded):
-    # Without letters nothing is guarded, though no letters stand in every line.
-    if guarded == "":
-        return 0
     for passage in passages:
-        if guarded in passage.found and not passage.is_as_found():
+        if is_guarded(passage.found, guarded) and not passage.is_as_found():
             return passage.number
     return 0

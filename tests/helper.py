@@ -38,6 +38,26 @@ def redo():
     return [4]
 
 
+def shown():
+    return [5]
+
+
+def origins():
+    return [6]
+
+
+def same(a, b):
+    return [7] + row(a) + row(b)
+
+
+def guard(letters):
+    return [8] + row(letters)
+
+
+def history():
+    return [9]
+
+
 def taken_apart(answered):
     parts = []
     at = 0

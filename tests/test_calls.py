@@ -3,7 +3,7 @@
 import unittest
 
 from lineedits.edits import answers
-from tests.helper import apply, dry, load, load_told, redo, row, told, undo
+from tests.helper import apply, dry, guard, history, load, load_told, origins, redo, row, same, shown, told, undo
 
 
 class Untouchable(list):
@@ -18,12 +18,20 @@ class Untouchable(list):
 
 WORKED = [
     (load("a", "key", "b"), [1, 3]),
-    (dry("swap e x ;"), [1, 3, 2, 1, 0, 0, 0, 2]),
+    (guard("key"), [1, 1]),
+    (dry("swap e x ;"), [1, 3, 2, 1, 0, 0, 2, 2]),
+    (apply("swap e x ;"), [-9]),
     (apply("if is a after q ; if is b delete ;"), [1, 3, 2, 0, 1, 1]),
+    (shown(), [3, 8, 97, 10, 113, 10, 107, 101, 121, 10]),
+    (origins(), [3, 1, 0, 0, 1, 2, 0]),
     (apply("if is q change z ;"), [1, 3, 2, 1, 0, 0]),
+    (origins(), [3, 1, 0, 0, 2, 2, 0]),
+    (history(), [2, 0, 3, 3, 3]),
     (undo(), [1, 3, 1]),
     (redo(), [1, 3, 2]),
     (undo(), [1, 3, 1]),
+    (same("if is q delete ;", "if line 2 delete ;"), [0, 0, 0]),
+    (same("if is zz delete ;", "if line 9 delete ;"), [1, 2]),
 ]
 
 
@@ -35,6 +43,15 @@ class InterfaceTest(unittest.TestCase):
         calls = [0, 2, 97, 10, 2, 0, 1, 4, 107, 101, 101, 112, 3, 1, 6] + row("keep ;")[1:] + [3, 4]
         self.assertEqual(answers(calls), [2, 1, 1, 8, 1, 1, 1, 0, 0, 0, 0, 0, 3, 0, 3, 4, 1, -2,
                                           6, 1, 1, 1, 0, 0, 0, 3, 1, 1, 0, 3, 1, 1, 1])
+
+    def test_a_call_with_two_rows(self):
+        calls = [0, 2, 97, 10, 7, 6] + row("keep ;")[1:] + [0, 7, 0, 6] + row("stop ;")[1:] + [7, 0, 1, 33, 8, 1, 97, 9]
+        self.assertEqual(answers(calls), [2, 1, 1, 2, 1, 1, 2, 1, 1, 3, 0, 2, 0, 2, 1, 1, 3, 0, 0, 1])
+
+    def test_the_longest_list(self):
+        longest = [32] * 8192
+        calls = [load("a")] + [same(longest, longest)] * 3 + [same(longest, "!"), guard(longest), shown()]
+        self.assertEqual(told(*calls), [[1, 1]] + [[0, 1, 4096]] * 4 + [[-4], [1, 2, 97, 10]])
 
     def test_a_list_of_ints(self):
         answered = answers([number for call, answer in WORKED for number in call])
@@ -65,6 +82,15 @@ class InterfaceTest(unittest.TestCase):
         calls = [load(*["abcdefgh"] * 24)] + [dry("swap a none ;")] * 39
         self.assertEqual(told(*calls), [[1, 24]] + [[1, 24, 0, 24, 0, 0, 0, 48]] * 39)
 
+    def test_40_calls_with_the_longest_answers(self):
+        text = ["abcdefghijklmnop"] * 24
+        calls = [load(*text)] + [apply("")] * 20 + [shown(), origins(), history()] * 6 + [shown()]
+        answered = told(*calls)[21:]
+        self.assertEqual(answered[0], [24, 408] + ([*range(97, 113), 10]) * 24)
+        self.assertEqual(answered[1], [24] + [number for line in range(1, 25) for number in (line, 0)])
+        self.assertEqual(answered[2], [20, 0] + [24] * 21)
+        self.assertEqual(answered, answered[:3] * 6 + answered[:1])
+
     def test_rows_of_8192_numbers(self):
         self.assertEqual(told(load("a"), load_told([97] * 8192), apply([32] * 8192), dry([59] * 8192), undo()),
                          [[1, 1], [-4], [0, 1, 4096], [0, 1, 4096], [-2]])
@@ -72,19 +98,23 @@ class InterfaceTest(unittest.TestCase):
 
 class NoTextTest(unittest.TestCase):
     def test_each_call_but_load_is_refused(self):
-        shown, origins, same, guard, history = [5], [6], [7] + row("") + row(""), [8] + row("key"), [9]
-        for call in (apply("keep ;"), dry("keep ;"), undo(), redo(), shown, origins, same, guard, history):
+        for call in (apply("keep ;"), dry("keep ;"), undo(), redo(), shown(), origins(), same("", "keep ;"),
+                     guard("key"), guard(""), history()):
             with self.subTest(call=call):
                 self.assertEqual(told(call, load("a"), undo()), [[-1], [1, 1], [-2]])
+                self.assertEqual(told(load_told("x"), call, call), [[-4], [-1], [-1]])
+
+    def test_a_refused_guard_guards_nothing(self):
+        self.assertEqual(told(guard("a"), load("a"), apply("delete ;")), [[-1], [1, 1], [1, 0, 0, 0, 1, 0]])
 
     def test_ahead_of_all_else(self):
         for script in ("delete", "!", "skip 0 ;", "keep ;" * 17, " " * 5000):
             with self.subTest(script=script):
                 self.assertEqual(told(apply(script), dry(script)), [[-1], [-1]])
-        self.assertEqual(told([7] + row("!") + row("delete"), [8] + row("A b")), [[-1], [-1]])
+        self.assertEqual(told(same("!", "delete"), same("", "!"), guard("A b"), guard("a" * 17)), [[-1]] * 4)
 
     def test_the_rows_of_refused_calls_are_passed_over(self):
-        self.assertEqual(told([7] + row("keep ;") + row([3, 3]), [8] + row([4, 4, 4]), load("a")), [[-1], [-1], [1, 1]])
+        self.assertEqual(told(same("keep ;", [3, 3]), guard([4, 4, 4]), load("a")), [[-1], [-1], [1, 1]])
 
 
 class OrderTest(unittest.TestCase):

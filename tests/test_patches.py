@@ -1,5 +1,6 @@
 """What the least patch of one text to another costs."""
 
+import functools
 import itertools
 import unittest
 
@@ -16,13 +17,23 @@ def in_common(first, second):
                 return size
 
 
-def cost_as_told(first, second):
+@functools.lru_cache(maxsize=None)
+def in_common_by_cases(first, second):
+    """The same of two tuples, case by case: quick enough for long texts."""
+    if not first or not second:
+        return 0
+    if first[0] == second[0]:
+        return 1 + in_common_by_cases(first[1:], second[1:])
+    return max(in_common_by_cases(first[1:], second), in_common_by_cases(first, second[1:]))
+
+
+def cost_as_told(first, second, common=in_common_by_cases):
     """What the patch costs that is made just as the document tells it."""
-    cost = 0
+    first, second, cost = tuple(first), tuple(second), 0
     while first and second:
         if first[0] == second[0]:
             first, second = first[1:], second[1:]
-        elif in_common(first[1:], second) >= in_common(first, second[1:]):
+        elif common(first[1:], second) >= common(first, second[1:]):
             first, cost = first[1:], cost + 1
         else:
             second, cost = second[1:], cost + 1
@@ -59,6 +70,7 @@ class PatchTest(unittest.TestCase):
         for first in texts[::2]:
             for second in texts[::3]:
                 self.assertEqual(how_many_in_common(first, second), in_common(first, second))
+                self.assertEqual(patch_cost(first, second), cost_as_told(first, second, in_common))
                 self.assertEqual(patch_cost(first, second), cost_as_told(first, second))
 
 

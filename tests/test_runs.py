@@ -3,7 +3,7 @@
 import unittest
 
 from lineedits.refusals import TooMuch
-from lineedits.runs import run
+from lineedits.runs import outcome_of, result_of, run
 from lineedits.scripts import commands_of
 from tests.helper import apply, dry, lines_after, load, row, told
 
@@ -200,14 +200,16 @@ class TooMuchTest(unittest.TestCase):
     def test_60_lines_and_61_of_a_run(self):
         twelve = ["a"] * 12
         commands = commands_of(row("after b ;" * 4)[1:])
-        self.assertEqual(sum(passage.how_many_come() for passage in run(commands, twelve)), 60)
+        self.assertEqual(result_of(run(commands, twelve)), ["a", "b", "b", "b", "b"] * 12)
+        self.assertEqual(outcome_of(commands, twelve), ["a", "b", "b", "b", "b"] * 12)
         with self.assertRaises(TooMuch):
             run(commands, twelve + ["a"])
+        self.assertIsNone(outcome_of(commands, twelve + ["a"]))
         one_more = commands_of(row("after b ;" * 4 + "if line 1 before c ;")[1:])
         with self.assertRaises(TooMuch):
             run(one_more, twelve)
         one_less = commands_of(row("after b ;" * 4 + "if line 1 before c ; if line 2 delete ;")[1:])
-        self.assertEqual(sum(passage.how_many_come() for passage in run(one_less, twelve)), 60)
+        self.assertEqual(len(result_of(run(one_less, twelve))), 60)
         self.is_too_much(["a"] * 24, "after b ;" * 16)
 
 

@@ -154,7 +154,7 @@ class TwentyStepsTest(unittest.TestCase):
 class GuardedTest(unittest.TestCase):
     def guarding(self, letters, *lines):
         made = session(lines)
-        made.guarded = letters
+        made.guard(row(letters)[1:])
         return made
 
     def first_harmed(self, made, script):

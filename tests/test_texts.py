@@ -2,7 +2,7 @@
 
 import unittest
 
-from tests.helper import apply, dry, load, load_told, redo, session, told, undo
+from tests.helper import apply, dry, guard, load, load_told, redo, session, told, undo
 
 
 class LoadTest(unittest.TestCase):
@@ -71,10 +71,8 @@ class LoadTest(unittest.TestCase):
              [1, 1, 1, 0, 1, 0, 0, 1]])
 
     def test_a_load_forgets_what_was_guarded(self):
-        made = session(["key"])
-        made.guarded = "key"
-        made.load([107, 101, 121, 10])
-        self.assertEqual(made.guarded, "")
+        self.assertEqual(told(load("key"), guard("key"), load("key"), dry("delete ;"), apply("delete ;"))[3:],
+                         [[1, 0, 0, 0, 1, 0, 0, 1], [1, 0, 0, 0, 1, 0]])
 
     def test_the_steps_are_numbered_anew(self):
         made = session(["a"], "change b ;", "change c ;")
